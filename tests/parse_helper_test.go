@@ -251,7 +251,6 @@ func (r *otherReader) list() *thing {
 
 func (r *otherReader) behindDot() *thing {
 	r.at++
-	r.skip(r.datum)
 	if r.peek().Kind == impl.ReadClose {
 		r.fail(r.peek(), 3)
 	}

@@ -130,7 +130,14 @@ func TestP7LeftOut(t *testing.T) {
 	for _, text := range []string{"#;", "(#;", "#;'", "a #;", "#;#;a", "(a #;", "#;(a", "'#;a", "#0=#;a", "(a . #;b", "(a . b #;", "'#;a«)", "(#;«)", "(a . b #;«)", "(a . #;«)", "#0=#;a«)", "#;«)", "#;(a #;«)"} {
 		checkReadFault(t, text, impl.ReadUneven)
 	}
-	for _, text := range []string{"#;«.", "#; «. a", "(a #;«. b)", "(#;a «. b)", "(#;a «.)", "(a . #;b «)", "(a . #;b #;c «)", "(a . b #;c «d)", "(a . b #;c «.)", "(a . b #;c «. d)", "(a . b #;«. c)", "(a . #;«. b)", "#(a #;b «. c)", "'#;a «.", "#;(«. a) b", "#;(a . «) b", "#;(a . b «c) d"} {
+	// a ReadClose is not right behind a ReadDot, if what is left out stands between; comments and blanks are nothing between
+	for _, text := range []string{"(a . #;b «)", "(a . #;b«)", "(a . #;#;b c«)", "( 255 . #; () «) a", "(a . #;b #;c «)", "(a . #;(b . c) «)", "(a . #; ; c\n b «)", "((a . #;b «) . c)", "#;(a . #;b «) c", "'(a . #;b «)", "#0=(a . #;#0# «)", "(a . #;b", "(a . #;b #;c"} {
+		checkReadFault(t, text, impl.ReadUneven)
+	}
+	for _, text := range []string{"(a . «)", "(a .«)", "(a . ; b\n «)", "(a . #|b|# «)", "(a #;b . «)", "(a #;b .«)", "#;(a . «) b", "(a #;(b . «) c)", "(a . #;(b . «) c)"} {
+		checkReadFault(t, text, impl.ReadBadDot)
+	}
+	for _, text := range []string{"#;«.", "#; «. a", "(a #;«. b)", "(#;a «. b)", "(#;a «.)", "(a . b #;c «d)", "(a . b #;c «.)", "(a . b #;c «. d)", "(a . b #;«. c)", "(a . #;«. b)", "#(a #;b «. c)", "'#;a «.", "#;(«. a) b", "#;(a . «) b", "#;(a . b «c) d"} {
 		checkReadFault(t, text, impl.ReadBadDot)
 	}
 	for _, text := range []string{"#u8(«#;1)", "#u8(1 «#;2)", "#u8(1 «#;2 3)", "#u8(«#;)", "#u8(«#;", "#;#u8(«#;1)", "#u8(1 «#;a 2)", "#;#u8(«a) b", "(#;#u8(1 «256) b)"} {
