@@ -8,8 +8,6 @@ import (
 	"loop.example/sistab/impl"
 )
 
-// What ReadParse reads is ReadMin of what it read: so ReadMin is tested along with promise 7.
-
 // checkMin has data, and what ReadMin of them is.
 func checkMin(t *testing.T, d impl.ReadData, want impl.ReadData) {
 	t.Helper()
@@ -66,7 +64,7 @@ func scribble(d impl.ReadData) {
 	}
 }
 
-func TestP7MinOfGraphs(t *testing.T) {
+func TestP4MinOfGraphs(t *testing.T) {
 	end, a, b := node(impl.ReadNil, ""), node(impl.ReadSymbol, "a"), node(impl.ReadSymbol, "b")
 	pairOf := func(first int, second int) impl.ReadNode { return node(impl.ReadPair, "", first, second) }
 	checkMin(t, impl.ReadData{}, impl.ReadData{})
@@ -82,8 +80,8 @@ func TestP7MinOfGraphs(t *testing.T) {
 	checkMin(t, data(node(impl.ReadRow, "", 1, 2, 3), node(impl.ReadRow, ""), end, node(impl.ReadRaw, "")), data(node(impl.ReadRow, "", 1, 2, 3), node(impl.ReadRow, ""), end, node(impl.ReadRaw, "")))
 }
 
-// TestP7MinAsTheyAre has nodes that are not ok: Sort and Text are told as they are.
-func TestP7MinAsTheyAre(t *testing.T) {
+// TestP4MinAsTheyAre has nodes that are not ok: Sort and Text are told as they are.
+func TestP4MinAsTheyAre(t *testing.T) {
 	odd := []impl.ReadNode{
 		node(impl.ReadRow, "x", 1, 2, 3, 4, 5, 6), node(0, ""), node(-3, "a\xff"), node(impl.ReadNumber, "01"), node(impl.ReadPair, "p", 0, 2), node(math.MaxInt, "a\xff"), node(impl.ReadRow, "y", 0),
 	}
@@ -94,7 +92,7 @@ func TestP7MinAsTheyAre(t *testing.T) {
 	checkMin(t, many, many)
 }
 
-func TestP7MinOfNoData(t *testing.T) {
+func TestP4MinOfNoData(t *testing.T) {
 	end := node(impl.ReadNil, "")
 	for _, place := range []int{-1, 2, math.MinInt, math.MaxInt} {
 		checkMin(t, data(node(impl.ReadPair, "", 1, place), end), impl.ReadData{})
@@ -114,17 +112,12 @@ func TestP7MinOfNoData(t *testing.T) {
 	}
 }
 
-// TestP7MinAnotherWay holds ReadMin of many graphs against asking each two nodes of them.
-func TestP7MinAnotherWay(t *testing.T) {
+// TestP4MinAnotherWay holds ReadMin of many graphs against asking each two nodes of them.
+func TestP4MinAnotherWay(t *testing.T) {
 	d := &dice{state: 23}
 	for range 6000 {
 		graph := d.graph(d.upTo(11) + 1)
-		all := thingsOf(graph)
-		roots := []*thing{}
-		for _, root := range graph.Roots {
-			roots = append(roots, all[root])
-		}
-		checkMin(t, graph, otherMin(roots))
+		checkMin(t, graph, otherMin(rootsOf(graph)))
 		if t.Failed() {
 			return // one graph is enough to tell
 		}
@@ -155,8 +148,8 @@ func (d *dice) graph(size int) impl.ReadData {
 	return g
 }
 
-// TestP7MinOfDeepData has data that are deep, and that go around late.
-func TestP7MinOfDeepData(t *testing.T) {
+// TestP4MinOfDeepData has data that are deep, and that go around late.
+func TestP4MinOfDeepData(t *testing.T) {
 	const deep = 100_000
 	nodes := []impl.ReadNode{node(impl.ReadNil, "")}
 	for i := range deep {

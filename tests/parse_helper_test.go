@@ -425,6 +425,16 @@ func thingsOf(d impl.ReadData) []*thing {
 	return all
 }
 
+// rootsOf is the things of data that are its roots.
+func rootsOf(d impl.ReadData) []*thing {
+	all := thingsOf(d)
+	roots := []*thing{}
+	for _, root := range d.Roots {
+		roots = append(roots, all[root])
+	}
+	return roots
+}
+
 // checkAnotherWay holds what is read of a text against the other way.
 func checkAnotherWay(t *testing.T, text string) impl.ReadFault {
 	t.Helper()
